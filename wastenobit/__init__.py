@@ -1,0 +1,1 @@
+"""A set of numbers, kept in the fewest bytes there can be."""
