@@ -49,6 +49,16 @@ def members(sizes, held):
     return found
 
 
+def walked(sizes, keeper):
+    """Every number of the set, from one answer of fb_next to the one behind it."""
+    found = []
+    x = keeper.least_from(sizes, 0)
+    while x >= 0:
+        found.append(x)
+        x = keeper.least_from(sizes, x + 1)
+    return found
+
+
 class Bytes(unittest.TestCase):
 
     def assert_bytes_alone(self, keeper):
@@ -62,6 +72,19 @@ class Bytes(unittest.TestCase):
             keeper = keeper_of(keep.Sizes(), numbers)
             self.assert_bytes_alone(keeper)
             self.assertEqual(members(keep.Sizes(), keeper.held), sorted(numbers))
+            self.assert_asked_from_the_bytes(keeper.held, numbers)
+
+    def assert_asked_from_the_bytes(self, held, numbers):
+        sizes = keep.Sizes()
+        other = keep.Keeper()
+        other.held = list(held)
+        self.assertEqual(other.how_many(sizes), len(numbers))
+        self.assertEqual(walked(sizes, other), sorted(numbers))
+        for x in numbers[::9]:
+            self.assertEqual(other.has(sizes, x), 1)
+            self.assertEqual(other.has(sizes, x ^ 1), 1 if x ^ 1 in numbers else 0)
+        self.assert_bytes_alone(other)
+        self.assertEqual(other.held, held)
 
     def test_bytes_alone_after_every_call(self):
         sizes = keep.Sizes()
@@ -134,6 +157,9 @@ class Bounds(unittest.TestCase):
             due = keep.share(heads, tails, length, low, many - low)
             if rare == 0 or due > keep.RARE:
                 taken += due if low * 2 == many else due * 2
+            else:
+                # The walk from the even split outward must come by no rare one ahead of one that is not.
+                self.assertEqual(taken, rare)
         if rare == 0:
             self.assertEqual(taken, sizes.heads[depth][many])
         else:

@@ -6,18 +6,11 @@ import random
 import time
 import unittest
 
-from tests.reference import drops, puts, told
+from tests.reference import asks, drops, puts, seeks, single, told
 from wastenobit import keep
 
 TOP = 16777215
 FULL_SET = [x * 4093 % 16777216 for x in range(4096)]
-
-
-def single(calls):
-    """The answers alone, after a look at the counts before them."""
-    row = keep.answers(calls)
-    assert row[0::2] == [1] * (len(row) // 2), row
-    return row[1::2]
 
 
 class Start(unittest.TestCase):
@@ -148,7 +141,8 @@ class NothingBesides(unittest.TestCase):
             append = extend = insert = pop = remove = clear = sort = reverse = refuse
             __setitem__ = __delitem__ = __iadd__ = __imul__ = refuse
 
-        calls = [0] + puts([4, 4, 9, TOP + 1]) + drops([4, 4, TOP + 1]) + [0]
+        asked = asks([4, 9, TOP + 1]) + [4] + seeks([0, 9, 10, TOP + 1])
+        calls = [0] + puts([4, 4, 9, TOP + 1]) + asked + drops([4, 4, TOP + 1]) + asked + [0]
         self.assertEqual(keep.answers(Sealed(calls)), told(calls))
         handed = list(calls)
         keep.answers(handed)
@@ -163,10 +157,10 @@ class NothingBesides(unittest.TestCase):
 
     def test_one_time_leaves_nothing_for_the_next(self):
         keep.answers([0, 1, 5])
-        self.assertEqual(single([0, 2, 5, 1, 5]), [0, -2, 0])
+        self.assertEqual(single([0, 4, 3, 5, 5, 0, 2, 5, 1, 5]), [0, 0, 0, -2, -2, 0])
 
     def test_whole_numbers_in_a_list(self):
-        row = keep.answers([0, 1, 5, 1, 5, 2, 5, 2, 5, 1, TOP + 1])
+        row = keep.answers([0, 1, 5, 3, 5, 3, 6, 4, 5, 0, 1, 5, 2, 5, 4, 2, 5, 1, TOP + 1, 3, TOP + 1, 5, TOP + 1])
         self.assertIs(type(row), list)
         self.assertEqual({type(value) for value in row}, {int})
 
@@ -174,7 +168,7 @@ class NothingBesides(unittest.TestCase):
         out = io.StringIO()
         err = io.StringIO()
         with contextlib.redirect_stdout(out), contextlib.redirect_stderr(err):
-            keep.answers([0, 1, 5, 2, 5])
+            keep.answers([0, 1, 5, 3, 5, 4, 5, 0, 2, 5, 5, 0])
         self.assertEqual(out.getvalue() + err.getvalue(), "")
 
 

@@ -81,6 +81,14 @@ class Language(unittest.TestCase):
                 if isinstance(node, ast.Call) and isinstance(node.func, ast.Attribute):
                     self.assertIn(node.func.attr, own | set(METHODS))
 
+    def test_no_name_is_a_method_and_a_value(self):
+        for name, text, tree in trees():
+            methods = {node.name for top in tree.body if isinstance(top, ast.ClassDef) for node in top.body
+                       if isinstance(node, ast.FunctionDef)}
+            values = {node.attr for node in ast.walk(tree) if isinstance(node, ast.Attribute)
+                      and isinstance(node.ctx, ast.Store)}
+            self.assertEqual(methods & values, set())
+
     def test_the_top_of_a_file(self):
         for name, text, tree in trees():
             bound = []

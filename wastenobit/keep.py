@@ -36,12 +36,13 @@ RARE = 4096
 RAISE_BITS = 34
 
 # How many numbers stand behind the number of a call.
-BEHIND_CALL = (0, 1, 1)
+BEHIND_CALL = (0, 1, 1, 1, 0, 1)
 
 ABOVE_LIMIT = -22
 IS_IN = -17
 IS_FULL = -28
 IS_NOT_IN = -2
+NONE_FROM_THERE = -2
 
 
 # The bound of the head and the length of the tail, for a depth and a count. They are worked out as far as
@@ -266,6 +267,29 @@ def with_end(sizes, path, end):
     return part
 
 
+# The least number of a part that has some; base is the least that the part could have.
+def least_in(sizes, depth, part, base):
+    while part.many > 1:
+        fork = split_part(sizes, depth, part, False)
+        depth += 1
+        part = fork.low_half
+        if part.many == 0:
+            part = fork.high_half
+            base += LIMIT >> depth
+    return base + part.head
+
+
+# What is above x stands in the high halves that its way passed by; the later it passed one, the nearer that is.
+def least_above(sizes, path, x):
+    depth = len(path.forks)
+    for fork in reversed(path.forks):
+        if not fork.is_high and fork.high_half.many > 0:
+            half = LIMIT >> depth
+            return least_in(sizes, depth, fork.high_half, x - x % half + half)
+        depth -= 1
+    return NONE_FROM_THERE
+
+
 # The object of the calls: the bytes in held are all that it keeps.
 class Keeper:
 
@@ -297,13 +321,36 @@ class Keeper:
         self.held = write_whole(with_end(sizes, path, Part(0, 0, [])))
         return 0
 
+    def has(self, sizes, x):
+        if x >= LIMIT:
+            return ABOVE_LIMIT
+        path = find_path(sizes, read_whole(sizes, self.held), x)
+        return 1 if path.is_found else 0
+
+    def how_many(self, sizes):
+        return read_whole(sizes, self.held).many
+
+    def least_from(self, sizes, x):
+        if x >= LIMIT:
+            return ABOVE_LIMIT
+        path = find_path(sizes, read_whole(sizes, self.held), x)
+        if path.is_found:
+            return x
+        return least_above(sizes, path, x)
+
 
 def answer(sizes, keeper, call, row):
     if call == 0:
         return keeper.start_anew()
     if call == 1:
         return keeper.put(sizes, row[0])
-    return keeper.drop(sizes, row[0])
+    if call == 2:
+        return keeper.drop(sizes, row[0])
+    if call == 3:
+        return keeper.has(sizes, row[0])
+    if call == 4:
+        return keeper.how_many(sizes)
+    return keeper.least_from(sizes, row[0])
 
 
 def answers(calls):
